@@ -1,0 +1,1 @@
+"""Fewestrules: sort orders with levels, and the fewest rules between them."""

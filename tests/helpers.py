@@ -1,0 +1,166 @@
+"""What several tests need: orders to try, wrong values, and strict comparisons.
+
+The reckonings here are written from the document's words, apart from the program.
+"""
+
+import doctest
+import random
+from itertools import combinations, permutations, product
+
+from fewestrules.errors import BadValue
+
+NAMES = ("a", "b", "c", "d", "e", "f", "g", "h", "i", "j", "k", "l", "m", "n")
+TWELVE = NAMES[:12]
+THIRTEEN = NAMES[:13]
+
+WRONG_LETTERS = (None, True, False, 0, 1, (), [], ("a",), ["a"], b"a", "", "A", "1", "1a", "_a", "a_", "a b",
+                 " a", "a ", "a\n", "aB", "a-", "a.", "\xe4", "a\xe4", "a\u0663", "\uff41", "abcdefghijklm")
+
+WRONG_TUPLES = (None, True, 0, 1, "a", "ab", "", [], ["a"], {"a": 1}, ("a", "a"), ("a", "b", "a"), (None,),
+                ("a", 1), ("a", ("b",)), ("a", ["b"]), ("A",), ("a", ""), THIRTEEN, NAMES)
+
+WRONG_LEVELS = (None, True, False, 0, 4, -1, "1", "", (), (1,), [1], 1.0)
+
+WRONG_ORDERS = (
+    None, True, 0, 1, "ab", "", (), [], ((),), ((), (), ()), [(), ()], ([], ()), ((), []), ((), None), (None, ()),
+    ("", ()), ((), ""), ("a", ()), ((), (1,)), (("a",), (1,)), (("a",), None), (("a",), []), (["a"], ()),
+    (("a", "b"), ()), (("a", "b"), (1, 1)), (("a", "b"), [1]), (["a", "b"], (1,)), [("a", "b"), (1,)],
+    (("a", "b"), 1), (("a", "b"), (0,)), (("a", "b"), (4,)), (("a", "b"), (-1,)), (("a", "b"), (True,)),
+    (("a", "b"), ("1",)), (("a", "b"), (None,)), (("a", "b"), ((1,),)), (("a", "b"), (1.0,)),
+    (("a", "a"), (1,)), (("a", "b", "a"), (1, 2)), (("a", "B"), (1,)), (("a", ""), (1,)), (("a", 1), (1,)),
+    (("a", ["b"]), (1,)), (("a", None), (1,)), (("a", "b"), (1,), ()), (THIRTEEN, (1,) * 12),
+    (THIRTEEN, (1,) * 11), (TWELVE, (1,) * 12), (TWELVE, (1,) * 10), (TWELVE, (1,) * 10 + (True,)),
+)
+
+GOOD_RULE = ("after", "a", 1, "x")
+
+WRONG_RULES = (
+    None, True, 0, "after", "", (), [], ["after", "a", 1, "b"], ("after", "a", 1), ("after", "a", 1, "b", 1),
+    ("after", "a", 1, "a"), ("before", "b", 3, "b"), ("After", "a", 1, "b"), ("", "a", 1, "b"),
+    ("behind", "a", 1, "b"), (None, "a", 1, "b"), (True, "a", 1, "b"), (("after",), "a", 1, "b"),
+    (["after"], "a", 1, "b"), ("after", "A", 1, "b"), ("after", "", 1, "b"), ("after", None, 1, "b"),
+    ("after", ["a"], 1, "b"), ("after", "a", 0, "b"), ("after", "a", 4, "b"), ("after", "a", True, "b"),
+    ("after", "a", "1", "b"), ("after", "a", None, "b"), ("after", "a", 1.0, "b"), ("after", "a", 1, "B"),
+    ("after", "a", 1, ""), ("after", "a", 1, None), ("after", "a", 1, ["b"]), ("after", "a", 1, ("b",)),
+    ("after", "a", "b", 1), ("a", "after", 1, "b"), ("after", "a", 1, "abcdefghijklm"), (GOOD_RULE,),
+)
+
+WRONG_RULE_LISTS = (
+    None, True, 0, "", "after", [], [GOOD_RULE], GOOD_RULE, (GOOD_RULE,) * 21, (GOOD_RULE, None),
+    (None, GOOD_RULE), ((GOOD_RULE,),), (list(GOOD_RULE),), (GOOD_RULE, ("after", "a", True, "b")),
+    (GOOD_RULE,) * 19 + (("after", "a", 1, "a"),), {},
+)
+
+
+def same(test, got, wanted):
+    """Asserts that two values are equal and of the same kinds throughout: True is not 1, a list no tuple."""
+    test.assertEqual(repr(got), repr(wanted))
+
+
+def orders_of(letters):
+    """All orders of just these letters, in the sequence of point 58."""
+    for row in permutations(letters):
+        for strengths in product((1, 2, 3), repeat=max(len(row) - 1, 0)):
+            yield row, strengths
+
+
+def orders_within(letters):
+    """All orders of any of these letters."""
+    for many in range(len(letters) + 1):
+        for part in combinations(letters, many):
+            yield from orders_of(part)
+
+
+def some_order(chance, letters, many):
+    """An order of so many of the letters."""
+    row = tuple(chance.sample(list(letters), many))
+    weights = chance.choice(((1, 2, 3), (1, 3), (2, 3), (1, 1, 1, 2, 3), (3, 3, 3, 2, 1), (1,), (3,)))
+    return row, tuple(chance.choice(weights) for _ in range(max(many - 1, 0)))
+
+
+def some_orders(seed, many, least=1, most=12):
+    """So many orders of least to most letters, the same ones each time."""
+    chance = random.Random(seed)
+    for turn in range(many):
+        yield some_order(chance, NAMES, least + turn % (most - least + 1))
+
+
+def reckoned_difference(order, one, other):
+    """The difference of two letters as point 9 tells it."""
+    letters, strengths = order
+    found = 4
+    for place, strength in enumerate(strengths):
+        ends = (letters.index(one), letters.index(other))
+        if min(ends) <= place < max(ends) and strength < found:
+            found = strength
+    return found
+
+
+def turned(order):
+    """The order in reverse."""
+    return tuple(reversed(order[0])), tuple(reversed(order[1]))
+
+
+def assert_bad_values(test, function, arguments):
+    """Asserts what the function raises for wrong arguments.
+
+    The arguments are tuples (name, right value, wrong values), in their sequence. Each of them is wrong
+    alone, and with each choice of later ones that are wrong, too.
+    """
+    right = [value for _, value, _ in arguments]
+    for place, (name, _, wrong) in enumerate(arguments):
+        later = list(range(place + 1, len(arguments)))
+        for value in wrong:
+            for many in range(len(later) + 1):
+                for also in combinations(later, many):
+                    given = list(right)
+                    given[place] = value
+                    for at in also:
+                        given[at] = arguments[at][2][0]
+                    assert_bad_value(test, name, function, given)
+
+
+def assert_bad_value(test, name, function, given):
+    """Asserts that the function raises BadValue with this name."""
+    with test.assertRaises(BadValue, msg=f"{function} {given!r}") as caught:
+        function(*given)
+    test.assertEqual(caught.exception.name, name, f"{function} {given!r}")
+
+
+def assert_printed(test, text):
+    """Asserts that calls print what the text says, as an interactive session shows it."""
+    session = doctest.DocTestParser().get_doctest(text, {}, test.id(), None, 0)
+    test.assertTrue(session.examples)
+    told = []
+    result = doctest.DocTestRunner(verbose=False).run(session, out=told.append)
+    test.assertEqual(result.failed, 0, "".join(told))
+
+
+def rules_for(anchors, letter):
+    """All rules that put the letter beside one of the anchors, in the sequence of point 27."""
+    for side in ("after", "before"):
+        for anchor in anchors:
+            for strength in (1, 2, 3):
+                if anchor != letter:
+                    yield side, anchor, strength, letter
+
+
+def reckoned_result(order, rule):
+    """The result of a rule, told by the sentences of point 23."""
+    side, anchor, strength, letter = rule
+    others = [x for x in order[0] if x != letter]
+    near = [x for x in others if reckoned_difference(order, anchor, x) > strength]
+    place = others.index(anchor)
+    if side == "after":
+        many = max([place] + [others.index(x) for x in near]) + 1
+    else:
+        many = min([place] + [others.index(x) for x in near])
+    row = others[:many] + [letter] + others[many:]
+    strengths = []
+    for one, other in zip(row, row[1:]):
+        if letter in (one, other):
+            other = other if one == letter else one
+            strengths.append(min(strength, reckoned_difference(order, anchor, other)))
+        else:
+            strengths.append(reckoned_difference(order, one, other))
+    return tuple(row), tuple(strengths)
