@@ -9,11 +9,14 @@ FIRST_CHARACTERS = "abcdefghijklmnopqrstuvwxyz"
 CHARACTERS = "abcdefghijklmnopqrstuvwxyz0123456789"
 
 
+def is_integer(value):
+    """True if the value is an integer; True and False are none."""
+    return isinstance(value, int) and not isinstance(value, bool)
+
+
 def is_integer_within(value, least, most):
-    """True if the value is an integer from least to most; True and False are none."""
-    if isinstance(value, bool) or not isinstance(value, int):
-        return False
-    return least <= value <= most
+    """True if the value is an integer from least to most."""
+    return is_integer(value) and least <= value <= most
 
 
 def is_strength(value):

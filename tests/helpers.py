@@ -164,3 +164,72 @@ def reckoned_result(order, rule):
         else:
             strengths.append(reckoned_difference(order, one, other))
     return tuple(row), tuple(strengths)
+
+
+def some_rules(chance, order, many):
+    """So many rules that can be applied to the order, which has letters, one after another."""
+    rules = []
+    for _ in range(many):
+        left = [letter for letter in NAMES if len(order[0]) < 12 or letter in order[0]]
+        anchor = chance.choice(order[0])
+        letter = chance.choice([letter for letter in left if letter != anchor])
+        rule = (chance.choice(("after", "before")), anchor, chance.choice((1, 2, 3)), letter)
+        rules.append(rule)
+        order = reckoned_result(order, rule)
+    return tuple(rules)
+
+
+def reckoned_led(order, rules):
+    """The order to which rules lead, one by one as point 23 tells it."""
+    for rule in rules:
+        order = reckoned_result(order, rule)
+    return order
+
+
+def some_pairs(seed, many, most=12):
+    """So many pairs of orders: alike but for some rules, of the same letters, of other letters."""
+    chance = random.Random(seed)
+    for turn in range(many):
+        first = some_order(chance, NAMES, 1 + turn % most)
+        if turn % 5 < 2:
+            letters = NAMES[:most] if most < 12 else NAMES
+            second = some_order(chance, first[0] if turn % 5 else letters, len(first[0]))
+        else:
+            second = reckoned_led(first, some_rules(chance, first, turn % 4 + 1))
+        yield first, second
+
+
+def reckoned_common(first, second):
+    """All common lists of two orders, the longest ones first, else in the sequence of point 33."""
+    shared = [letter for letter in second[0] if letter in first[0]]
+    goes = {}
+    for one, other in combinations(shared, 2):
+        ahead = first[0].index(one) < first[0].index(other)
+        goes[one, other] = ahead and reckoned_difference(first, one, other) == reckoned_difference(second, one, other)
+    lists = [()]
+    for letter in shared:
+        lists += [row + (letter,) for row in lists if all(goes[other, letter] for other in row)]
+    return sorted(lists, key=lambda row: (-len(row), [second[0].index(letter) for letter in row]))
+
+
+def reckoned_longest(first, second):
+    """All longest common lists of two orders, in the sequence of point 33."""
+    lists = reckoned_common(first, second)
+    return [row for row in lists if len(row) == len(lists[0])]
+
+
+# No common list of any orders, and no argument `letters` of a right form, whatever the orders are.
+NO_LISTS = WRONG_TUPLES + (False, 1.5, b"a", object(), {"a"}, {"a": 1}, ["a", "b"], (("a",),), ("a", True),
+                           ("a", None, "b"), (["a"], "b"), TWELVE + ("a",))
+
+REVERSED_THREES = tuple("cbafedihglkj")
+ALIKE_TWELVE = (TWELVE, (1,) * 11)
+MANY_LONGEST = (
+    (ALIKE_TWELVE, (TWELVE[::-1], (1,) * 11), 12),
+    (ALIKE_TWELVE, (tuple("badcfehgjilk"), (1,) * 11), 64),
+    (ALIKE_TWELVE, (REVERSED_THREES, (1,) * 11), 81),
+    (ALIKE_TWELVE, (TWELVE, (2,) * 11), 12),
+    ((TWELVE, (3, 3, 1) * 3 + (3, 3)), (REVERSED_THREES, (3, 3, 1) * 3 + (3, 3)), 81),
+    ((TWELVE, (2, 2, 1) * 3 + (2, 2)), (TWELVE, (3, 3, 1) * 3 + (3, 3)), 81),
+    (ALIKE_TWELVE, ALIKE_TWELVE, 1),
+)

@@ -9,7 +9,7 @@ from fewestrules.orders import is_order, without
 from fewestrules.rules import applied, can_apply, is_rule, is_rule_list, led
 from tests.helpers import (GOOD_RULE, NAMES, TWELVE, WRONG_LETTERS, WRONG_ORDERS, WRONG_RULE_LISTS, WRONG_RULES,
                            assert_bad_value, assert_bad_values, assert_printed, orders_of, orders_within,
-                           reckoned_difference, reckoned_result, rules_for, same, some_orders, turned)
+                           reckoned_difference, reckoned_result, rules_for, same, some_orders, some_rules, turned)
 
 FULL = (TWELVE, (1, 2, 3, 1, 2, 3, 1, 2, 3, 1, 2))
 
@@ -26,19 +26,6 @@ def tried():
         for letter in inside + outside:
             for rule in rules_for(order[0], letter):
                 yield order, rule
-
-
-def some_rules(chance, order, many):
-    """So many rules that can be applied to the order, one after another."""
-    rules = []
-    for _ in range(many):
-        left = [letter for letter in NAMES if len(order[0]) < 12 or letter in order[0]]
-        anchor = chance.choice(order[0])
-        letter = chance.choice([letter for letter in left if letter != anchor])
-        rule = (chance.choice(("after", "before")), anchor, chance.choice((1, 2, 3)), letter)
-        rules.append(rule)
-        order = reckoned_result(order, rule)
-    return tuple(rules)
 
 
 def turned_rule(rule):
