@@ -28,13 +28,20 @@ def put_between(order, left, right):
     return put_from_left(order, left + 1, middle) + put_from_right(order, middle, right)
 
 
+def reaches(first, second):
+    """True if the second order can be reached from the first one; they are not checked again."""
+    if not first[0]:
+        # Without letters there is no anchor for any rule.
+        return not second[0]
+    return all(letter in second[0] for letter in first[0])
+
+
 def keeping_rules(first, second, letters):
     """The tuple of the rules that keep the common list, or None if the second order cannot be reached."""
     check_both(first, second)
     if not is_common_list(first, second, letters) or not letters:
         raise BadValue("letters")
-    # The first order has letters here, so it can miss the second one only by a letter that would have to go.
-    if not all(letter in second[0] for letter in first[0]):
+    if not reaches(first, second):
         return None
     places = [second[0].index(letter) for letter in letters]
     rules = put_from_right(second, 0, places[0])

@@ -5,6 +5,7 @@ from fewestrules.errors import BadValue
 MOST_LETTERS = 12
 MOST_CHARACTERS = 12
 SAME = 4
+STRENGTHS = (1, 2, 3)
 FIRST_CHARACTERS = "abcdefghijklmnopqrstuvwxyz"
 CHARACTERS = "abcdefghijklmnopqrstuvwxyz0123456789"
 

@@ -1,9 +1,7 @@
 """Where a rule puts its letter, which rules do the same, and the rule that leads back."""
 
-from fewestrules.orders import check_order
+from fewestrules.orders import STRENGTHS, check_order
 from fewestrules.rules import AFTER, BEFORE, check_applicable, check_rule, result_of
-
-STRENGTHS = (1, 2, 3)
 
 
 def check_placing(order, rule):

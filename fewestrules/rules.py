@@ -102,6 +102,22 @@ def result_of(order, rule):
     return tuple(letters), tuple(strengths)
 
 
+def result_of_all(order, rules):
+    """The order to which the rules lead; their forms are not checked again, but whether they can be applied is."""
+    for index, rule in enumerate(rules):
+        check_applicable(order, rule, index)
+        order = result_of(order, rule)
+    return order
+
+
+def result_or_none(order, rules):
+    """The order to which the rules lead, or None if one of them cannot be applied when its turn comes."""
+    try:
+        return result_of_all(order, rules)
+    except NotApplicable:
+        return None
+
+
 def can_apply(order, rule):
     """True if the rule can be applied to the order."""
     check_order(order, "order")
@@ -121,7 +137,4 @@ def led(order, rules):
     """The order to which the rule list leads."""
     check_order(order, "order")
     check_rules(rules, "rules")
-    for index, rule in enumerate(rules):
-        check_applicable(order, rule, index)
-        order = result_of(order, rule)
-    return order
+    return result_of_all(order, rules)

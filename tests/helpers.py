@@ -52,6 +52,12 @@ WRONG_RULE_LISTS = (
 )
 
 
+# Values that are no order, no tuple of rules, levels or indexes, and no evidence of any kind.
+OTHER_VALUES = (None, True, False, 0, 1, -1, 1.5, "", "a", "after", b"a", [], [()], {}, {"a": 1}, {1}, set(), object(),
+                (None,), (True,), (1.5,), ("a",), ((),), ([],), ((), None), ((None,),), (((),),), ("a", "b"),
+                ("count",), ("pair",), ("count", None), ("pair", None, None))
+
+
 def same(test, got, wanted):
     """Asserts that two values are equal and of the same kinds throughout: True is not 1, a list no tuple."""
     test.assertEqual(repr(got), repr(wanted))
@@ -197,6 +203,61 @@ def some_pairs(seed, many, most=12):
         else:
             second = reckoned_led(first, some_rules(chance, first, turn % 4 + 1))
         yield first, second
+
+
+def reachable_pairs(seed, many, most=12):
+    """Those of some_pairs whose second order can be reached."""
+    for first, second in some_pairs(seed, many, most):
+        if all(letter in second[0] for letter in first[0]):
+            yield first, second
+
+
+def small_reachable_pairs():
+    """All pairs of orders of up to three letters, the first with letters, whose second order can be reached."""
+    orders = list(orders_within(("a", "b", "c")))
+    for first in orders:
+        for second in orders:
+            if first[0] and all(letter in second[0] for letter in first[0]):
+                yield first, second
+
+
+def steps_from(first, letters):
+    """All orders that rules make of an order, moving these letters, with the number of the fewest rules for each."""
+    steps = {first: 0}
+    ahead = [first]
+    while ahead:
+        order = ahead.pop(0)
+        for letter in letters:
+            for rule in rules_for(order[0], letter):
+                result = reckoned_result(order, rule)
+                if result not in steps:
+                    steps[result] = steps[order] + 1
+                    ahead.append(result)
+    return steps
+
+
+def left_out(order, letter):
+    """The order without the letter."""
+    row = tuple(x for x in order[0] if x != letter)
+    return row, tuple(reckoned_difference(order, x, y) for x, y in zip(row, row[1:]))
+
+
+def put_behind(order, letter, strength):
+    """The order with a new letter behind all others."""
+    return order[0] + (letter,), order[1] + (strength,) * min(len(order[0]), 1)
+
+
+def reckoned_right(first, second, levels):
+    """Point 36 word by word, for a tuple of as many integers as the second order has letters."""
+    told = dict(zip(second[0], levels))
+    for letter in second[0]:
+        if letter in first[0] and told[letter] < 1 or letter not in first[0] and told[letter] != 0:
+            return False
+    for x, y in combinations([letter for letter in second[0] if letter in first[0]], 2):
+        if first[0].index(x) < first[0].index(y):
+            if reckoned_difference(first, x, y) == reckoned_difference(second, x, y) and told[y] <= told[x]:
+                return False
+    return True
 
 
 def reckoned_common(first, second):

@@ -6,8 +6,8 @@ from itertools import combinations, permutations, product
 
 from fewestrules.common import accepts_levels, is_common, levels_for, longest_common
 from tests.helpers import (ALIKE_TWELVE, MANY_LONGEST, NAMES, NO_LISTS, TWELVE, WRONG_ORDERS, assert_bad_values,
-                           assert_printed, orders_of, orders_within, reckoned_common, reckoned_difference, same,
-                           some_orders, some_pairs, turned)
+                           assert_printed, left_out, orders_of, orders_within, put_behind, reckoned_common,
+                           reckoned_difference, reckoned_right, same, some_orders, some_pairs, turned)
 
 FIRST = (("a", "b", "c", "d"), (1, 1, 1))
 SECOND = (("b", "d", "a", "c"), (1, 2, 1))
@@ -38,30 +38,6 @@ def reckoned_is_common(first, second, letters):
         if reckoned_difference(first, one, other) != reckoned_difference(second, one, other):
             return False
     return True
-
-
-def reckoned_right(first, second, levels):
-    """Point 36 word by word, for a tuple of as many integers as the second order has letters."""
-    told = dict(zip(second[0], levels))
-    for letter in second[0]:
-        if letter in first[0] and told[letter] < 1 or letter not in first[0] and told[letter] != 0:
-            return False
-    for x, y in combinations([letter for letter in second[0] if letter in first[0]], 2):
-        if first[0].index(x) < first[0].index(y):
-            if reckoned_difference(first, x, y) == reckoned_difference(second, x, y) and told[y] <= told[x]:
-                return False
-    return True
-
-
-def left_out(order, letter):
-    """The order without the letter."""
-    row = tuple(x for x in order[0] if x != letter)
-    return row, tuple(reckoned_difference(order, x, y) for x, y in zip(row, row[1:]))
-
-
-def put_behind(order, letter, strength):
-    """The order with a new letter behind all others."""
-    return order[0] + (letter,), order[1] + (strength,) * min(len(order[0]), 1)
 
 
 class CommonLists(unittest.TestCase):

@@ -7,8 +7,9 @@ from fewestrules.common import is_common, longest_common
 from fewestrules.keeping import keeping_rules
 from fewestrules.rules import applied, is_rule, led
 from tests.helpers import (ALIKE_TWELVE, MANY_LONGEST, NAMES, NO_LISTS, TWELVE, WRONG_ORDERS, assert_bad_value,
-                           assert_bad_values, assert_printed, orders_within, reckoned_common, reckoned_led,
-                           reckoned_result, rules_for, same, some_orders, some_pairs, some_rules)
+                           assert_bad_values, assert_printed, orders_within, reachable_pairs, reckoned_common,
+                           reckoned_led, reckoned_result, rules_for, same, small_reachable_pairs, some_orders,
+                           some_pairs, some_rules, steps_from)
 
 EMPTY = ((), ())
 FIRST = (("a", "b", "c", "d"), (1, 1, 1))
@@ -34,20 +35,6 @@ def reckoned_rules(second, letters):
         rules += [rule for y in reversed(gap[turn:]) for rule in before_it if rule[3] == y]
     rules += [rule for y in row[row.index(letters[-1]) + 1:] for rule in after_it if rule[3] == y]
     return tuple(rules)
-
-
-def reachable_pairs(seed, many, most=12):
-    for first, second in some_pairs(seed, many, most):
-        if all(letter in second[0] for letter in first[0]):
-            yield first, second
-
-
-def small_reachable_pairs():
-    orders = list(orders_within(("a", "b", "c")))
-    for first in orders:
-        for at, second in enumerate(orders):
-            if first[0] and all(letter in second[0] for letter in first[0]):
-                yield first, second
 
 
 class Kept(unittest.TestCase):
@@ -106,17 +93,7 @@ class Kept(unittest.TestCase):
     def test_the_fewest_rules(self):
         # All orders that rules can make of letters of three, reached step by step.
         for first in list(orders_within(("a", "b", "c")))[1::4]:
-            steps = {first: 0}
-            ahead = [first]
-            while ahead:
-                order = ahead.pop(0)
-                for letter in ("a", "b", "c"):
-                    for rule in rules_for(order[0], letter):
-                        result = reckoned_result(order, rule)
-                        if result not in steps:
-                            steps[result] = steps[order] + 1
-                            ahead.append(result)
-            for second, many in steps.items():
+            for second, many in steps_from(first, ("a", "b", "c")).items():
                 self.assertEqual(len(keeping_rules(first, second, longest_common(first, second))), many)
 
     def test_what_a_rule_list_does_not_move_is_a_common_list(self):

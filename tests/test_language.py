@@ -36,6 +36,8 @@ BARRED_WORDS = set("""
 type typing typing_extensions enum Enum IntEnum StrEnum Flag IntFlag Generic Protocol ABC ABCMeta namedtuple
 NamedTuple TypedDict TYPE_CHECKING abstractmethod dataclass overload contextmanager
 """.split())
+# An interactive session, as doctest runs one, adds the name _ to the builtins.
+OF_PYTHON = set(dir(builtins)) - {"_"}
 STATEMENTS = (ast.Assign, ast.AugAssign, ast.If, ast.While, ast.For, ast.Return, ast.Break, ast.Continue, ast.Pass,
               ast.Raise, ast.Assert, ast.Delete, ast.Expr, ast.Try, ast.FunctionDef, ast.ClassDef, ast.ImportFrom)
 LITERALS = (ast.Constant, ast.Tuple, ast.List, ast.Dict, ast.UnaryOp, ast.Name)
@@ -150,12 +152,12 @@ class Names(unittest.TestCase):
                     name = node.name
                 if name not in (None, "__init__"):
                     self.assertNotIn(name, BARRED_NAMES, path)
-                    self.assertFalse(hasattr(builtins, name) or name.startswith("__"), (path, name))
+                    self.assertFalse(name in OF_PYTHON or name.startswith("__"), (path, name))
 
     def test_only_these_builtins(self):
         for path, _, tree in parsed():
             for node in ast.walk(tree):
-                if isinstance(node, ast.Name) and hasattr(builtins, node.id):
+                if isinstance(node, ast.Name) and node.id in OF_PYTHON:
                     self.assertIn(node.id, BUILTINS, path)
 
     def test_only_these_methods(self):
@@ -199,6 +201,26 @@ class Statements(unittest.TestCase):
                     self.assertNotIsInstance(node.value, (float, complex, bytes), path)
                 if isinstance(node, ast.BinOp):
                     self.assertNotIsInstance(node.op, (ast.Div, ast.MatMult), path)
+
+    def test_caught_errors(self):
+        own = [row.name for _, _, tree in parsed() for row in tree.body if isinstance(row, ast.ClassDef)]
+        for path, _, tree in parsed():
+            for node in ast.walk(tree):
+                if isinstance(node, ast.ExceptHandler):
+                    self.assertIsInstance(node.type, ast.Name, path)
+                    self.assertIn(node.type.id, own + ["KeyError", "ZeroDivisionError"], path)
+
+    def test_ranges_and_the_like_are_not_passed_on(self):
+        lazy = ("range", "zip", "enumerate", "reversed", "combinations", "permutations")
+        takers = ("list", "tuple", "dict", "sorted", "sum", "any", "all", "enumerate", "zip", "max", "min", "len",
+                  "reversed", "combinations")
+        for path, _, tree in parsed():
+            for node in ast.walk(tree):
+                if isinstance(node, ast.Call):
+                    taker = node.func.id if isinstance(node.func, ast.Name) else node.func.attr
+                    for argument in node.args:
+                        if isinstance(argument, ast.Call) and isinstance(argument.func, ast.Name):
+                            self.assertTrue(argument.func.id not in lazy or taker in takers, (path, node.lineno))
 
     def test_is_stands_with_none_and_truth(self):
         for path, _, tree in parsed():

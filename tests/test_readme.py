@@ -1,4 +1,4 @@
-"""The session that README.md shows."""
+"""The sessions that README.md shows."""
 
 import pathlib
 import unittest
@@ -7,6 +7,9 @@ from tests.helpers import assert_printed
 
 
 class Readme(unittest.TestCase):
-    def test_the_session(self):
+    def test_the_sessions(self):
         text = (pathlib.Path(__file__).resolve().parent.parent / "README.md").read_text(encoding="utf-8")
-        assert_printed(self, text.split("```")[1])
+        sessions = text.split("```")[1::2]
+        self.assertEqual(len(sessions), 2)
+        for session in sessions:
+            assert_printed(self, session)
