@@ -4,6 +4,7 @@ The reckonings here are written from the document's words, apart from the progra
 """
 
 import doctest
+import functools
 import random
 from itertools import combinations, permutations, product
 
@@ -278,6 +279,73 @@ def reckoned_longest(first, second):
     lists = reckoned_common(first, second)
     return [row for row in lists if len(row) == len(lists[0])]
 
+
+def reckoned_groups(order, level):
+    """The groups of the level as lists of letters: letters whose difference is greater than the level."""
+    rows = []
+    for letter in order[0]:
+        row = [x for x in order[0] if reckoned_difference(order, letter, x) > level]
+        if row not in rows:
+            rows.append(row)
+    return rows
+
+
+@functools.lru_cache(None)
+def reckoned_weights(order, letter):
+    """The weights of a letter, counted in the groups as point 77 tells them."""
+    coarse = reckoned_groups(order, 1)
+    row = [group for group in coarse if letter in group][0]
+    parts = [part for part in reckoned_groups(order, 2) if set(part) <= set(row)]
+    part = [found for found in parts if letter in found][0]
+    return coarse.index(row) + 1, parts.index(part) + 1, part.index(letter) + 1
+
+
+def reckoned_compare(order, first, second, level):
+    """What comparing two words gives, level by level and place by place."""
+    for at in range(level):
+        for one, other in zip(first, second):
+            weights = reckoned_weights(order, one)[at], reckoned_weights(order, other)[at]
+            if weights[0] != weights[1]:
+                return -1 if weights[0] < weights[1] else 1
+        if len(first) != len(second):
+            return -1 if len(first) < len(second) else 1
+    return 0
+
+
+def some_word(chance, letters, most=12):
+    """A word of these letters, of which some stand in it several times."""
+    if not letters:
+        return ()
+    letters = chance.sample(list(letters), min(len(letters), chance.choice((1, 2, 2, 3, 12))))
+    return tuple(chance.choice(letters) for _ in range(chance.choice((0, 1, 2, 2, 3, 3, 4, most))))
+
+
+def some_words(chance, order, many=12):
+    """So many words of the order, of which some are the same and some begin with another one."""
+    words = []
+    for _ in range(many):
+        word = some_word(chance, order[0])
+        if words and chance.random() < 0.4:
+            word = (chance.choice(words) + word[:1])[:12]
+        if words and chance.random() < 0.2:
+            word = chance.choice(words)[::-1]
+        words.append(word)
+    return tuple(words)
+
+
+def short_words(letters):
+    """All words of at most two of the letters, in the sequence of point 84."""
+    return [word for many in range(3) for word in product(letters, repeat=many)]
+
+
+# No words of an order with the letters a, b and c, and no tuples of such words.
+WRONG_WORDS = (None, True, 0, 1, "", "a", "ab", [], ["a"], {"a": 1}, ("z",), ("a", "z"), ("a", ""), (None,), (1,),
+               ("a", 1), ("a", ("b",)), ("a", ["b"]), ("A",), (("a",),), ("ab",), ("a",) * 13, ("a", True), ([],),
+               ("a", "b", "c") * 5, {"a"})
+WRONG_TUPLES_OF_WORDS = (None, True, 0, 1, "", "a", [], [("a",)], ["a"], ("a",), ("a", "b"), (("a",), "b"),
+                         (("a",), ["b"]), (("z",),), (("a",), ("b", "z")), (("a",), None), (("a",) * 13,),
+                         ((),) * 13, (("a",),) * 13, {("a",): 1}, {()}, ((("a",),),), (("a", 1),), (("a", None),),
+                         (1,), (["a"],))
 
 # No common list of any orders, and no argument `letters` of a right form, whatever the orders are.
 NO_LISTS = WRONG_TUPLES + (False, 1.5, b"a", object(), {"a"}, {"a": 1}, ["a", "b"], (("a",),), ("a", True),
