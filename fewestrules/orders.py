@@ -62,6 +62,23 @@ def check_order(value, name):
         raise BadValue(name)
 
 
+def is_order_of_same(order, value):
+    """True if the value is an order of the same letters as the order."""
+    return is_order(value) and sorted(value[0]) == sorted(order[0])
+
+
+def check_order_with_letters(value, name):
+    """Raises BadValue with the name if the value is not an order with at least one letter."""
+    if not is_order(value) or not value[0]:
+        raise BadValue(name)
+
+
+def check_order_of_same(order, value, name):
+    """Raises BadValue with the name if the value is not an order of the same letters as the order."""
+    if not is_order_of_same(order, value):
+        raise BadValue(name)
+
+
 def check_letters(value, name):
     """Raises BadValue with the name if the value is not a tuple of 0 to 12 different letters."""
     if not is_letter_tuple(value):

@@ -32,6 +32,11 @@ def are_ascending(keys):
     return all(one <= other for one, other in zip(keys, keys[1:]))
 
 
+def sorted_places(keys):
+    """The places of words with these keys, sorted; those of equal words in ascending order."""
+    return sorted(range(len(keys)), key=lambda place: keys[place])
+
+
 def is_words(order, value):
     """True if the value is a tuple of 0 to 12 words of the order."""
     check_order(order, "order")
@@ -47,9 +52,7 @@ def are_sorted(order, words, level):
 def sorted_words(order, words, level):
     """The tuple of the sorted words; words that are equal at the level keep their sequence."""
     check_sorting(order, words, level)
-    keys = keys_of(order, words, level)
-    places = sorted(range(len(words)), key=lambda place: keys[place])
-    return tuple(words[place] for place in places)
+    return tuple(words[place] for place in sorted_places(keys_of(order, words, level)))
 
 
 def equal_rows(order, words, level):

@@ -2,16 +2,14 @@
 
 from itertools import combinations
 
-from fewestrules.errors import BadValue
-from fewestrules.orders import check_level, check_order, groups_of, is_order
+from fewestrules.orders import check_level, check_order, check_order_of_same, groups_of
 from fewestrules.words import compared, is_word_of, keys_of
 
 
 def check_telling(first, second, level):
     """Raises BadValue for the first of the three that has a wrong form."""
     check_order(first, "first")
-    if not is_order(second) or sorted(second[0]) != sorted(first[0]):
-        raise BadValue("second")
+    check_order_of_same(first, second, "second")
     check_level(level, "level")
 
 

@@ -338,6 +338,87 @@ def short_words(letters):
     return [word for many in range(3) for word in product(letters, repeat=many)]
 
 
+known_result = functools.lru_cache(None)(reckoned_result)
+
+
+def reckoned_can(one, other):
+    """Point 55 sentence by sentence."""
+    if one == other:
+        return True
+    if one[3] == other[3]:
+        return False
+    if one[1] == other[3] or other[1] == one[3]:
+        return False
+    if one[0] == other[0] and one[2] == other[2]:
+        return not (one[1] == other[1] or one[2] in (1, 2))
+    return True
+
+
+def reckoned_or_none(order, rules):
+    """The order to which rules lead, or None if one of them cannot be applied when its turn comes."""
+    for rule in rules:
+        if rule[1] not in order[0] or len(order[0]) == 12 and rule[3] not in order[0]:
+            return None
+        order = known_result(order, rule)
+    return order
+
+
+def reckoned_shows(one, other, order):
+    """Point 57 sentence by sentence."""
+    if one[1] not in order[0] or other[1] not in order[0]:
+        return False
+    found, turned_round = reckoned_or_none(order, (one, other)), reckoned_or_none(order, (other, one))
+    return found is not None and turned_round is not None and found != turned_round
+
+
+def reckoned_letters(one, other):
+    """The letters of two rules, as point 58 tells them."""
+    letters = list(dict.fromkeys((one[1], one[3], other[1], other[3])))
+    if len(letters) == 2:
+        letters.append(min({"a", "b", "c"} - set(letters)))
+    return tuple(letters)
+
+
+def reckoned_first(one, other):
+    """Point 58: the orders gone through in its sequence, which is that of orders_of."""
+    for order in orders_of(reckoned_letters(one, other)):
+        if reckoned_shows(one, other, order):
+            return order
+    return None
+
+
+def some_list(chance, many, anchors=NAMES[:3], letters=NAMES[:6]):
+    """A rule list of so many rules, of which some are equal."""
+    rules = []
+    for _ in range(many):
+        if rules and chance.random() < 0.2:
+            rules.append(chance.choice(rules))
+            continue
+        anchor = chance.choice(anchors)
+        letter = chance.choice([letter for letter in letters if letter != anchor])
+        rules.append((chance.choice(("after", "before")), anchor, chance.choice((1, 2, 3, 3)), letter))
+    return tuple(rules)
+
+
+def alike_pairs(seed, many, most=12):
+    """Pairs of orders of the same letters: any two, and two with at most three rules between them."""
+    chance = random.Random(seed)
+    for first in some_orders(seed, many, 1, most):
+        yield first, some_order(chance, first[0], len(first[0]))
+        moving = [rule for letter in first[0] for rule in rules_for(first[0], letter)]
+        yield first, reckoned_led(first, chance.sample(moving, min(3, len(moving))))
+
+
+def some_changes(seed, many, most=12):
+    """Orders with rule lists that can be applied to them, with 0 to most words and each level."""
+    chance = random.Random(seed)
+    for turn, order in enumerate(some_orders(seed, many)):
+        rules = some_rules(chance, order, chance.choice((0, 1, 1, 2, 4, 9, 20)))
+        words = some_words(chance, order, most - turn % (most + 1))
+        for level in (1, 2, 3):
+            yield order, rules, words, level
+
+
 # No words of an order with the letters a, b and c, and no tuples of such words.
 WRONG_WORDS = (None, True, 0, 1, "", "a", "ab", [], ["a"], {"a": 1}, ("z",), ("a", "z"), ("a", ""), (None,), (1,),
                ("a", 1), ("a", ("b",)), ("a", ["b"]), ("A",), (("a",),), ("ab",), ("a",) * 13, ("a", True), ([],),

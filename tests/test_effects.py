@@ -10,8 +10,8 @@ from fewestrules.sorting import are_sorted, sorted_words
 from fewestrules.words import compare
 from tests.helpers import (NAMES, TWELVE, WRONG_LEVELS, WRONG_ORDERS, WRONG_RULE_LISTS, WRONG_TUPLES_OF_WORDS,
                            assert_bad_value, assert_bad_values, assert_printed, orders_of, reckoned_compare,
-                           reckoned_led, rules_for, same, short_words, some_order, some_orders, some_rules,
-                           some_word, some_words)
+                           reckoned_led, rules_for, same, short_words, some_changes, some_order, some_orders,
+                           some_rules, some_word, some_words)
 
 ORDER = (("a", "b", "c"), (1, 1))
 RULES = (("before", "a", 1, "c"),)
@@ -19,16 +19,6 @@ WORDS = (("a",), ("b",), ("c",), ("b", "a"))
 FULL = (TWELVE, (1, 2, 3, 1, 2, 3, 1, 2, 3, 1, 2))
 EMPTY = ((), ())
 LEVELS = (1, 2, 3)
-
-
-def tried(seed, many):
-    """Orders with rule lists that can be applied to them, with 0 to 12 words and each level."""
-    chance = random.Random(seed)
-    for turn, order in enumerate(some_orders(seed, many)):
-        rules = some_rules(chance, order, chance.choice((0, 1, 1, 2, 4, 9, 20)))
-        words = some_words(chance, order, 12 - turn % 13)
-        for level in LEVELS:
-            yield order, rules, words, level
 
 
 def reckoned_changed(order, rules, words, level):
@@ -46,7 +36,7 @@ def reckoned_changed(order, rules, words, level):
 class Changed(unittest.TestCase):
     def test_against_comparing(self):
         many = 0
-        for order, rules, words, level in tried(160, 250):
+        for order, rules, words, level in some_changes(160, 250):
             found = changed_pairs(order, rules, words, level)
             same(self, found, reckoned_changed(order, rules, words, level))
             many += bool(found)
@@ -101,7 +91,7 @@ class Changed(unittest.TestCase):
 class Moved(unittest.TestCase):
     def test_letters_of_the_order_that_some_rule_moves(self):
         kinds = set()
-        for order, rules, _, _ in tried(161, 200):
+        for order, rules, _, _ in some_changes(161, 200):
             letters = {rule[3] for rule in rules}
             found = moved_in(order, rules)
             same(self, found, tuple(letter for letter in order[0] if letter in letters))
@@ -149,7 +139,7 @@ class Sentences(unittest.TestCase):
                 same(self, are_sorted(after, sorted_words(order, words, level), level), True)
 
     def test_two_words_without_moved_letters_among_others(self):
-        for order, rules, words, level in tried(164, 200):
+        for order, rules, words, level in some_changes(164, 200):
             moved = moved_in(order, rules)
             for i, j in changed_pairs(order, rules, words, level):
                 self.assertTrue(set(words[i] + words[j]) & set(moved))

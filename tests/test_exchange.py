@@ -1,6 +1,5 @@
 """Points 2, 55 to 58, 64 and 65: rules that can be exchanged, and orders that show that two cannot be."""
 
-import functools
 import random
 import unittest
 from itertools import product
@@ -8,61 +7,16 @@ from itertools import product
 from fewestrules.exchange import can_exchange, first_showing, shows
 from fewestrules.rules import can_apply, led
 from tests.helpers import (GOOD_RULE, NAMES, OTHER_VALUES, TWELVE, WRONG_ORDERS, WRONG_RULES, assert_bad_values,
-                           assert_printed, orders_of, orders_within, reckoned_result, rules_for, same, some_order)
+                           assert_printed, orders_of, orders_within, reckoned_can, reckoned_first,
+                           reckoned_letters, reckoned_or_none, reckoned_shows, rules_for, same, some_order)
 
 THREE = ("a", "b", "c")
 FOUR = ("a", "b", "c", "d")
-known_result = functools.lru_cache(None)(reckoned_result)
 
 
 def rules_over(letters):
     """All rules over these letters."""
     return [rule for letter in letters for rule in rules_for(letters, letter)]
-
-
-def reckoned_can(one, other):
-    """Point 55 sentence by sentence."""
-    if one == other:
-        return True
-    if one[3] == other[3]:
-        return False
-    if one[1] == other[3] or other[1] == one[3]:
-        return False
-    if one[0] == other[0] and one[2] == other[2]:
-        return not (one[1] == other[1] or one[2] in (1, 2))
-    return True
-
-
-def reckoned_both(order, one, other):
-    """The result of both rules, one after the other, or None if they cannot be applied."""
-    for rule in (one, other):
-        if rule[1] not in order[0] or len(order[0]) == 12 and rule[3] not in order[0]:
-            return None
-        order = known_result(order, rule)
-    return order
-
-
-def reckoned_shows(one, other, order):
-    """Point 57 sentence by sentence."""
-    if one[1] not in order[0] or other[1] not in order[0]:
-        return False
-    found, turned_round = reckoned_both(order, one, other), reckoned_both(order, other, one)
-    return found is not None and turned_round is not None and found != turned_round
-
-
-def reckoned_letters(one, other):
-    letters = list(dict.fromkeys((one[1], one[3], other[1], other[3])))
-    if len(letters) == 2:
-        letters.append(min({"a", "b", "c"} - set(letters)))
-    return tuple(letters)
-
-
-def reckoned_first(one, other):
-    """Point 58: the orders gone through in its sequence, which is that of orders_of."""
-    for order in orders_of(reckoned_letters(one, other)):
-        if reckoned_shows(one, other, order):
-            return order
-    return None
 
 
 def rules_of_four_letters():
@@ -104,7 +58,7 @@ class Exchanged(unittest.TestCase):
             anchors = [chance.choice(order[0]) for _ in range(2)]
             one, other = [(chance.choice(("after", "before")), anchor, chance.choice((1, 2, 3)),
                            chance.choice([letter for letter in NAMES if letter != anchor])) for anchor in anchors]
-            found, turned_round = reckoned_both(order, one, other), reckoned_both(order, other, one)
+            found, turned_round = reckoned_or_none(order, (one, other)), reckoned_or_none(order, (other, one))
             if can_exchange(one, other) and found is not None and turned_round is not None:
                 many += 1
                 same(self, led(order, (one, other)), found)

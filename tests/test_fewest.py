@@ -9,10 +9,10 @@ from fewestrules.fewest import answer_for, can_reach, distance, is_fewest, moved
 from fewestrules.keeping import keeping_rules
 from fewestrules.rules import is_rule_list, led
 from tests.helpers import (ALIKE_TWELVE, MANY_LONGEST, NAMES, OTHER_VALUES, TWELVE, WRONG_ORDERS, WRONG_RULE_LISTS,
-                           assert_bad_value, assert_bad_values, assert_printed, left_out, orders_of, orders_within,
-                           put_behind, reachable_pairs, reckoned_led, reckoned_longest, reckoned_result,
-                           reckoned_right, rules_for, same, some_order, some_orders, some_pairs, some_rules,
-                           steps_from, turned)
+                           alike_pairs, assert_bad_value, assert_bad_values, assert_printed, left_out, orders_of,
+                           orders_within, put_behind, reachable_pairs, reckoned_led, reckoned_longest,
+                           reckoned_result, reckoned_right, rules_for, same, some_order, some_orders, some_pairs,
+                           some_rules, steps_from, turned)
 
 EMPTY = ((), ())
 FIRST = (("a", "b", "c", "d"), (1, 1, 1))
@@ -27,15 +27,6 @@ def small_steps():
         yield first, ("a", "b", "c"), steps_from(first, ("a", "b", "c"))
     for first in ((("c",), ()), (("d", "a"), (3,)), (("b", "d", "c"), (2, 3)), (("c", "a", "d", "b"), (3, 1, 2))):
         yield first, FOUR, steps_from(first, FOUR)
-
-
-def alike_pairs(seed, many, most=12):
-    """Pairs of orders of the same letters: any two, and two with at most three rules between them."""
-    chance = random.Random(seed)
-    for first in some_orders(seed, many, 1, most):
-        yield first, some_order(chance, first[0], len(first[0]))
-        moving = [rule for letter in first[0] for rule in rules_for(first[0], letter)]
-        yield first, reckoned_led(first, chance.sample(moving, min(3, len(moving))))
 
 
 class Reached(unittest.TestCase):

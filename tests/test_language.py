@@ -64,6 +64,14 @@ def module_names(tree):
     return defined, imported
 
 
+def classes():
+    """Each class of the package, as its file, its name and the statements in it."""
+    for path, _, tree in parsed():
+        for row in tree.body:
+            if isinstance(row, ast.ClassDef):
+                yield path, row.name, row.body
+
+
 def docstrings(tree):
     """The nodes of the docstrings of a file."""
     found = []
@@ -161,11 +169,11 @@ class Names(unittest.TestCase):
                     self.assertIn(node.id, BUILTINS, path)
 
     def test_only_these_methods(self):
+        own = {row.name for _, _, body in classes() for row in body if isinstance(row, ast.FunctionDef)}
         for path, _, tree in parsed():
-            own = [node.name for node in ast.walk(tree) if isinstance(node, ast.FunctionDef)]
             for node in ast.walk(tree):
                 if isinstance(node, ast.Call) and isinstance(node.func, ast.Attribute):
-                    self.assertIn(node.func.attr, METHODS | set(own), path)
+                    self.assertIn(node.func.attr, METHODS | own, path)
 
     def test_barred_words(self):
         for path, _, tree in parsed():
@@ -182,6 +190,28 @@ class Names(unittest.TestCase):
             if isinstance(getattr(node, name, None), str):
                 return getattr(node, name)
         return ""
+
+
+class Classes(unittest.TestCase):
+    def test_only_plain_methods(self):
+        for path, name, body in classes():
+            for place, row in enumerate(body):
+                if isinstance(row, ast.Expr):
+                    self.assertTrue(place == 0 and isinstance(row.value, ast.Constant), (path, name))
+                else:
+                    self.assertIsInstance(row, ast.FunctionDef, (path, name))
+            methods = [row.name for row in body if isinstance(row, ast.FunctionDef)]
+            self.assertEqual(len(set(methods)), len(methods), (path, name))
+
+    def test_no_name_is_a_method_and_an_attribute(self):
+        methods = {row.name for _, _, body in classes() for row in body if isinstance(row, ast.FunctionDef)}
+        assigned, read = set(), set()
+        for _, _, tree in parsed():
+            for node in ast.walk(tree):
+                if isinstance(node, ast.Attribute):
+                    (assigned if isinstance(node.ctx, ast.Store) else read).add(node.attr)
+        self.assertFalse(assigned & methods)
+        self.assertFalse(read - assigned - methods - METHODS)
 
 
 class Statements(unittest.TestCase):

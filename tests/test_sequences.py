@@ -10,25 +10,12 @@ from fewestrules.rules import is_rule_list, result_or_none
 from fewestrules.sequences import (accepts_unlike, count_sequences, dependent_pairs, swapped, swaps_to,
                                    why_unlike)
 from tests.helpers import (GOOD_RULE, OTHER_VALUES, WRONG_RULE_LISTS, WRONG_RULES, assert_bad_value,
-                           assert_bad_values, assert_printed, rules_for, same, some_order)
+                           assert_bad_values, assert_printed, rules_for, same, some_list, some_order)
 
 LETTERS = ("a", "b", "c", "d", "e", "f")
 # Rules of which no two neighbours can be exchanged, and rules of which each two can be.
 CHAIN = tuple(("after", f"a{at}", 3, f"a{at + 1}") for at in range(20))
 APART = tuple(("after", f"a{at}", 3, f"b{at}") for at in range(20))
-
-
-def some_list(chance, many, anchors=LETTERS[:3], letters=LETTERS):
-    """A rule list of so many rules, of which some are equal."""
-    rules = []
-    for _ in range(many):
-        if rules and chance.random() < 0.2:
-            rules.append(chance.choice(rules))
-            continue
-        anchor = chance.choice(anchors)
-        letter = chance.choice([letter for letter in letters if letter != anchor])
-        rules.append((chance.choice(("after", "before")), anchor, chance.choice((1, 2, 3, 3)), letter))
-    return tuple(rules)
 
 
 def some_lists(seed, many, most=20):
