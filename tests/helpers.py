@@ -8,7 +8,7 @@ import functools
 import random
 from itertools import combinations, permutations, product
 
-from fewestrules.errors import BadValue
+from fewestrules.errors import BadValue, TextError
 
 NAMES = ("a", "b", "c", "d", "e", "f", "g", "h", "i", "j", "k", "l", "m", "n")
 TWELVE = NAMES[:12]
@@ -132,6 +132,13 @@ def assert_bad_value(test, name, function, given):
     with test.assertRaises(BadValue, msg=f"{function} {given!r}") as caught:
         function(*given)
     test.assertEqual(caught.exception.name, name, f"{function} {given!r}")
+
+
+def assert_text_error(test, function, given, column, words):
+    """Asserts that the function raises TextError with this column and these words."""
+    with test.assertRaises(TextError, msg=f"{function} {given!r}") as caught:
+        function(*given)
+    same(test, (caught.exception.column, caught.exception.words), (column, words))
 
 
 def assert_printed(test, text):
@@ -419,6 +426,21 @@ def some_changes(seed, many, most=12):
             yield order, rules, words, level
 
 
+def some_command(chance, order, letters=NAMES):
+    """A command for a workshop whose current order this is; some of them cannot be done."""
+    kind = chance.randrange(10)
+    if kind == 0:
+        return ("reset",)
+    if not order[0]:
+        return ("rules", ())
+    rules = []
+    for _ in range(1 if kind < 6 else chance.randrange(5)):
+        anchor = chance.choice(letters if chance.random() < 0.1 else order[0])
+        letter = chance.choice([letter for letter in letters if letter != anchor])
+        rules.append((chance.choice(("after", "before")), anchor, chance.choice((1, 2, 3)), letter))
+    return ("rule", rules[0]) if kind < 6 else ("rules", tuple(rules))
+
+
 # No words of an order with the letters a, b and c, and no tuples of such words.
 WRONG_WORDS = (None, True, 0, 1, "", "a", "ab", [], ["a"], {"a": 1}, ("z",), ("a", "z"), ("a", ""), (None,), (1,),
                ("a", 1), ("a", ("b",)), ("a", ["b"]), ("A",), (("a",),), ("ab",), ("a",) * 13, ("a", True), ([],),
@@ -427,6 +449,21 @@ WRONG_TUPLES_OF_WORDS = (None, True, 0, 1, "", "a", [], [("a",)], ["a"], ("a",),
                          (("a",), ["b"]), (("z",),), (("a",), ("b", "z")), (("a",), None), (("a",) * 13,),
                          ((),) * 13, (("a",),) * 13, {("a",): 1}, {()}, ((("a",),),), (("a", 1),), (("a", None),),
                          (1,), (["a"],))
+
+# No texts; the last ones would have problems, too.
+WRONG_TEXTS = (None, True, False, 0, 1, 1.5, b"a < b", (), ("a",), [], ["a"], {"a": 1}, "\n", "a\n", "\na", "a <\n b",
+               " " * 401, "a " * 201, "a" * 401, "?" * 401, "?\n")
+
+WRONG_COMMANDS = (
+    None, True, 0, "reset", "rule", (), [], ["reset"], ("Reset",), ("reset", ()), ("reset", None), ("reset", GOOD_RULE),
+    ("undo",), ("",), (None,), (True,), (("reset",),), (["reset"],), ("rule",), ("rules",), ("rule", None),
+    ("rule", ()),
+    ("rule", (GOOD_RULE,)), ("rules", GOOD_RULE), ("rules", None), ("rules", [GOOD_RULE]), ("rule", list(GOOD_RULE)),
+    ["rule", GOOD_RULE], ("rule", GOOD_RULE, ()), ("rules", (), ()), ("Rule", GOOD_RULE), ("reset", "reset"),
+    ("rules", (GOOD_RULE,) * 21), ("rules", (GOOD_RULE, None)), ("rule", ("after", "a", True, "x")), (0, GOOD_RULE),
+    ("rule", ("after", "a", 1, "a")), ("rules", (("after", "a", 4, "b"),)), ("rule",) + GOOD_RULE, (None, GOOD_RULE),
+    GOOD_RULE, (GOOD_RULE,), {"rule": GOOD_RULE}, (("rule",), GOOD_RULE), (["rule"], GOOD_RULE), ("", ()),
+)
 
 # No common list of any orders, and no argument `letters` of a right form, whatever the orders are.
 NO_LISTS = WRONG_TUPLES + (False, 1.5, b"a", object(), {"a"}, {"a": 1}, ["a", "b"], (("a",),), ("a", True),
