@@ -138,6 +138,10 @@ class RuleLists(unittest.TestCase):
             same(self, rules_text(rules), text)
             same(self, read_rules(text), rules)
 
+    def test_the_first_rule_begins_a_chain_whatever_its_anchor_is(self):
+        for anchor in "abcdefghijklmnopqrstuvwxyz":
+            same(self, rules_text((("after", anchor, 2, "a1"),)), f"& {anchor} << a1")
+
     def test_texts_longer_than_four_hundred_characters(self):
         rules = tuple(("before", "a", 3, f"abcdefghij{at}") for at in range(10, 30))
         text = rules_text(rules)
